@@ -1,0 +1,1 @@
+"""Played by several over a bad net."""
