@@ -6,8 +6,6 @@ import unittest
 from badnet.game import Game
 from tests.helper import flat, told
 
-COUNTS = [3, 2, 1, 1, 1, 1, 1]
-
 
 def plain_world(players, seed, rows):
     """The world written down once more, with a dict of places and one row of keys a tick."""
@@ -111,19 +109,19 @@ class Plain:
 
 
 def drawn_line(draw):
-    line = []
-    if draw.random() < 0.8:
-        line.append((0, draw.randint(1, 4), draw.randrange(1 << 32), draw.choice([1, 2, 6, 20])))
-    weights = [0.3, 10, 6, 7, draw.choice([1, 6]), 2, 2]
+    """Machines and letters are mostly there, so that few calls of a line are refused."""
+    players = draw.randint(1, 4)
+    line = [(0, players, draw.randrange(1 << 32), draw.choice([1, 2, 6, 20]))]
+    weights = [0.2, 10, 6, 8, draw.choice([1, 6]), 2, 2]
     while len(line) < 40:
         number = draw.choices(range(7), weights)[0]
-        top = 9 if number in (3, 4, 5) else 4
+        machine = draw.randrange(players + (draw.random() < 0.2))
         if number == 0:
             line.append((0, draw.randrange(6), draw.randrange(1 << 32), draw.randrange(23)))
         elif number == 1:
-            line.append((1, draw.randrange(5), draw.choice([0, 1, 1, 1, 2, 2, 2, 3, 4, 5])))
+            line.append((1, machine, draw.choice([0, 1, 1, 1, 2, 2, 2, 3, 4, 5])))
         else:
-            line.append((number, draw.randint(0, top)))
+            line.append((number, draw.choice([0, 0, 1, 2, 4, 9]) if number in (3, 4, 5) else machine))
     return line
 
 

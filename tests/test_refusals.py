@@ -205,7 +205,8 @@ class AsItWas(unittest.TestCase):
         refused = [
             (BEGINS, 5, 9, 9), (PRESS, 0, 5), (PRESS, 9, 1), (SEND, 7), (ARRIVE, 8), (TWICE, 8), (LOSE, 8), (SHOWN, 3)]
         line = [
-            (BEGINS, 3, 3, 2), (PRESS, 0, 1), (PRESS, 1, 2), (SEND, 0), (PRESS, 2, 4), (ARRIVE, 1), (SEND, 1), (SHOWN, 2)]
+            (BEGINS, 3, 3, 2), (PRESS, 0, 1), (PRESS, 1, 2), (SEND, 0), (PRESS, 2, 4), (ARRIVE, 1),
+            (SEND, 1), (SHOWN, 2)]
         mixed = [call for pair in zip(line, refused) for call in pair]
         given = told(*mixed)
         self.assertEqual(given[0::2], told(*line))
