@@ -26,6 +26,19 @@ class Game:
     def has_letter(self, letter):
         return letter < len(self.letters)
 
+    def letters_of(self, machine):
+        """What that machine would write now to each other one, in order."""
+        others = [other for other in range(len(self.machines)) if other != machine]
+        return [self.machines[machine].letter_to(other) for other in others]
+
+    def let_all_come(self):
+        for letter in self.letters:
+            self.machines[letter.receiver].receive(letter)
+        self.letters = []
+
+    def sure_everywhere(self):
+        return min([machine.sure() for machine in self.machines])
+
     def begins(self, players, seed, ahead):
         if not 1 <= players <= MOST_PLAYERS or not 1 <= ahead <= MOST_AHEAD:
             return [-1]
@@ -48,14 +61,13 @@ class Game:
     def send(self, machine):
         if not self.has_machine(machine):
             return [-2]
-        others = [other for other in range(len(self.machines)) if other != machine]
-        if len(self.letters) + len(others) > MOST_LETTERS:
+        written = self.letters_of(machine)
+        if len(self.letters) + len(written) > MOST_LETTERS:
             return [-5]
-        answer = [len(others)]
-        for other in others:
-            letter = self.machines[machine].letter_to(other)
-            self.letters.append(letter)
-            answer.extend([other, letter.first, len(letter.pressed)])
+        self.letters.extend(written)
+        answer = [len(written)]
+        for letter in written:
+            answer.extend([letter.receiver, letter.first, len(letter.pressed)])
         return answer
 
     def arrive(self, letter):
@@ -85,3 +97,43 @@ class Game:
             return [-2]
         shower = self.machines[machine]
         return [shower.shown()] + shower.world_behind(shower.shown()).numbers()
+
+    def sure(self, machine):
+        if not self.has_machine(machine):
+            return [-2]
+        asked = self.machines[machine]
+        return [asked.sure()] + asked.world_behind(asked.sure()).numbers()
+
+    def net(self):
+        answer = [len(self.letters)]
+        for letter in self.letters:
+            answer.extend([letter.sender, letter.receiver, letter.first, len(letter.pressed), letter.told])
+        return answer
+
+    def agree(self):
+        ticks = self.sure_everywhere()
+        return [ticks] + [machine.world_behind(ticks).world_sum() for machine in self.machines]
+
+    def heal(self):
+        self.let_all_come()
+        # All are written before the first one comes: none tells yet of what another one brings.
+        for machine in range(len(self.machines)):
+            self.letters.extend(self.letters_of(machine))
+        self.let_all_come()
+        return [self.sure_everywhere()] + [machine.again for machine in self.machines]
+
+    def machine(self, machine):
+        if not self.has_machine(machine):
+            return [-2]
+        asked = self.machines[machine]
+        counts = [len(pressed) for pressed in asked.known]
+        return [asked.shown(), asked.sure(), asked.again] + counts + asked.there
+
+    def at(self, machine, ticks):
+        if not self.has_machine(machine):
+            return [-2]
+        asked = self.machines[machine]
+        if ticks > asked.shown():
+            return [-2]
+        is_sure = 1 if ticks <= asked.sure() else 0
+        return [is_sure] + asked.world_behind(ticks).numbers()

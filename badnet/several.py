@@ -3,7 +3,7 @@
 from badnet.game import Game
 
 # How many numbers stand behind the number of each call, from begins (0) on.
-ARGUMENTS = (3, 2, 1, 1, 1, 1, 1)
+ARGUMENTS = (3, 2, 1, 1, 1, 1, 1, 1, 0, 0, 0, 1, 2)
 
 
 def answer_to(game, call, numbers):
@@ -19,7 +19,19 @@ def answer_to(game, call, numbers):
         return game.twice(numbers[0])
     if call == 5:
         return game.lose(numbers[0])
-    return game.shown(numbers[0])
+    if call == 6:
+        return game.shown(numbers[0])
+    if call == 7:
+        return game.sure(numbers[0])
+    if call == 8:
+        return game.net()
+    if call == 9:
+        return game.agree()
+    if call == 10:
+        return game.heal()
+    if call == 11:
+        return game.machine(numbers[0])
+    return game.at(numbers[0], numbers[1])
 
 
 def answers(calls):

@@ -2,6 +2,7 @@
 
 SIDE = 8
 LUCKS = 2147483648
+SUMS = 1000000007
 # What each key adds to x and y: 7 is one back, as the field goes round.
 STEPS = ((0, 0), (1, 0), (0, 1), (7, 0), (0, 7))
 
@@ -56,3 +57,10 @@ class World:
             told.extend([place[0], place[1], points])
         told.extend([self.coin[0], self.coin[1]])
         return told
+
+    def world_sum(self):
+        """The luck is in it, though no answer tells it: worlds that look alike may go on otherwise."""
+        so_far = 7
+        for number in self.numbers() + [self.luck]:
+            so_far = (31 * so_far + number + 1) % SUMS
+        return so_far

@@ -1,9 +1,17 @@
 """Lines of calls written call by call, and their answers taken apart again."""
 
+from badnet.game import Game
 from badnet.several import answers
 
-BEGINS, PRESS, SEND, ARRIVE, TWICE, LOSE, SHOWN = range(7)
+BEGINS, PRESS, SEND, ARRIVE, TWICE, LOSE, SHOWN, SURE, NET, AGREE, HEAL, MACHINE, AT = range(13)
 MOST = 4294967295
+# The world before any tick, by how many players there are.
+BEGUN = {
+    1: [0, 0, 0, 4, 1],
+    2: [0, 0, 0, 2, 2, 0, 4, 1],
+    3: [0, 0, 0, 2, 2, 0, 4, 4, 0, 4, 1],
+    4: [0, 0, 0, 2, 2, 0, 4, 4, 0, 6, 6, 0, 4, 1],
+}
 
 
 def flat(calls):
@@ -30,3 +38,11 @@ def last(*calls):
 
 def presses(machine, keys):
     return [(PRESS, machine, key) for key in keys]
+
+
+def full_game():
+    """Two players, 40 letters on their way."""
+    game = Game()
+    for times in range(40):
+        game.send(0)
+    return game

@@ -2,9 +2,11 @@ import copy
 import unittest
 
 from badnet.game import Game
-from tests.helper import ARRIVE, BEGINS, LOSE, MOST, PRESS, SEND, SHOWN, TWICE, last, presses, told
+from tests.helper import (
+    ARRIVE, AT, BEGINS, BEGUN, LOSE, MACHINE, MOST, NET, PRESS, SEND, SHOWN, SURE, TWICE, full_game, last, presses,
+    told)
 
-FIRST = [0, 0, 0, 0, 2, 2, 0, 4, 1]
+FIRST = [0] + BEGUN[2]
 
 
 def state(thing):
@@ -14,14 +16,6 @@ def state(thing):
     if hasattr(thing, "__dict__"):
         return {name: state(part) for name, part in vars(thing).items()}
     return copy.deepcopy(thing)
-
-
-def full_game():
-    """Two players, 40 letters on their way."""
-    game = Game()
-    for times in range(40):
-        game.send(0)
-    return game
 
 
 def played(rounds, ahead):
@@ -175,6 +169,51 @@ class Shown(unittest.TestCase):
         self.assertEqual(told((BEGINS, 1, 1, 1), (SHOWN, 0), (SHOWN, 1))[1:], [[0, 0, 0, 0, 4, 1], [-2]])
 
 
+class Sure(unittest.TestCase):
+    def test_machine(self):
+        self.assertEqual([last((SURE, machine)) for machine in [0, 1, 2, MOST]], [FIRST, FIRST, [-2], [-2]])
+        for players in BEGUN:
+            given = told((BEGINS, players, 1, 1), (SURE, players - 1), (SURE, players), (SURE, MOST))
+            self.assertEqual(given[1:], [[0] + BEGUN[players], [-2], [-2]])
+
+
+class OfAMachine(unittest.TestCase):
+    def test_machine(self):
+        self.assertEqual([last((MACHINE, machine)) for machine in [0, 1, 2, MOST]], [[0] * 7, [0] * 7, [-2], [-2]])
+        for players in BEGUN:
+            given = told((BEGINS, players, 1, 1), (MACHINE, players - 1), (MACHINE, players), (MACHINE, MOST))
+            self.assertEqual(given[1:], [[0] * (3 + 2 * players), [-2], [-2]])
+
+
+class At(unittest.TestCase):
+    def test_machine(self):
+        begun = [1] + BEGUN[2]
+        self.assertEqual([last((AT, machine, 0)) for machine in [0, 1, 2, MOST]], [begun, begun, [-2], [-2]])
+        for players in BEGUN:
+            given = told((BEGINS, players, 1, 1), (AT, players - 1, 0), (AT, players, 0), (AT, MOST, 0))
+            self.assertEqual(given[1:], [[1] + BEGUN[players], [-2], [-2]])
+
+    def test_ticks(self):
+        given = told(*presses(0, [0, 0]), *[(AT, 0, ticks) for ticks in [2, 3, MOST]])
+        self.assertEqual(given[2:], [FIRST, [-2], [-2]])
+
+    def test_ticks_with_nothing_shown(self):
+        self.assertEqual(told((AT, 0, 0), (AT, 0, 1), (AT, 0, MOST)), [[1] + BEGUN[2], [-2], [-2]])
+
+    def test_ticks_shown_on_that_machine_not_on_another(self):
+        given = told(*presses(0, [0, 0]), (PRESS, 1, 0), (AT, 1, 1), (AT, 1, 2))
+        self.assertEqual(given[3:], [FIRST, [-2]])
+
+    def test_both(self):
+        self.assertEqual(last((AT, 2, 1)), [-2])
+        self.assertEqual(last((AT, MOST, MOST)), [-2])
+
+    def test_sixty_ticks(self):
+        game = played(60, 20)
+        self.assertEqual(game.at(0, 60), [1] + game.sure(0)[1:])
+        self.assertEqual(game.at(0, 61), [-2])
+
+
 class AsItWas(unittest.TestCase):
     def check(self, game, refused, call, *numbers):
         before = state(game)
@@ -192,7 +231,13 @@ class AsItWas(unittest.TestCase):
         self.check(game, -2, "press", 2, 0)
         self.check(game, -6, "press", 0, 0)
         self.check(game, -2, "send", 2)
-        self.check(game, -2, "shown", 2)
+        for machine in [2, MOST]:
+            self.check(game, -2, "shown", machine)
+            self.check(game, -2, "sure", machine)
+            self.check(game, -2, "machine", machine)
+            self.check(game, -2, "at", machine, 0)
+        self.check(game, -2, "at", 0, 6)
+        self.check(game, -2, "at", 1, MOST)
         for call in ["arrive", "twice", "lose"]:
             self.check(game, -2, call, 1)
 
@@ -201,16 +246,26 @@ class AsItWas(unittest.TestCase):
         self.check(full_game(), -5, "twice", 0)
         self.check(played(60, 20), -5, "press", 0, 1)
 
+    def test_asking_changes_nothing(self):
+        game = played(3, 2)
+        game.press(0, 1)
+        game.send(0)
+        before = state(game)
+        for answer in [game.shown(0), game.sure(0), game.net(), game.agree(), game.machine(1), game.at(0, 4)]:
+            answer.append(99)
+            self.assertEqual(state(game), before)
+
     def test_a_line_goes_on_as_without_them(self):
         refused = [
-            (BEGINS, 5, 9, 9), (PRESS, 0, 5), (PRESS, 9, 1), (SEND, 7), (ARRIVE, 8), (TWICE, 8), (LOSE, 8), (SHOWN, 3)]
+            (BEGINS, 5, 9, 9), (PRESS, 0, 5), (PRESS, 9, 1), (SEND, 7), (ARRIVE, 8), (TWICE, 8), (LOSE, 8), (SHOWN, 3),
+            (SURE, 3), (MACHINE, 3), (AT, 3, 0), (AT, 2, 2)]
         line = [
             (BEGINS, 3, 3, 2), (PRESS, 0, 1), (PRESS, 1, 2), (SEND, 0), (PRESS, 2, 4), (ARRIVE, 1),
-            (SEND, 1), (SHOWN, 2)]
+            (SEND, 1), (SHOWN, 2), (SURE, 2), (MACHINE, 2), (AT, 2, 1), (NET,)]
         mixed = [call for pair in zip(line, refused) for call in pair]
         given = told(*mixed)
         self.assertEqual(given[0::2], told(*line))
-        self.assertEqual(given[1::2], [[-1], [-1], [-2], [-2], [-2], [-2], [-2], [-2]])
+        self.assertEqual(given[1::2], [[-1], [-1]] + [[-2]] * 10)
 
 
 if __name__ == "__main__":
