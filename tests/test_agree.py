@@ -1,4 +1,8 @@
-"""A world's sum, and what agree answers. Sums were worked out by hand, step by step."""
+"""A world's sum, and what agree answers.
+
+Two sums are worked out by hand, step by step, in WorldSum; the others come from a desk calculator (bc), which was
+given the numbers of the world that stands beside them.
+"""
 
 import unittest
 
